@@ -1,0 +1,1 @@
+"""Leapcart: folk who leap off a cart, and drive it by that."""
