@@ -138,8 +138,8 @@ class Shown(unittest.TestCase):
             self.check(None, changed(LEAST, 2, (lot, (5, 1))))
 
     def test_fractions_that_are_none(self):
-        wrong = ((2, 2), (10, 2), (5, 0), (1, 0), (-5, -1), (5, -1), (True, 1), (5, True), (5, False), (5.0, 1), (5, 1.0),
-                 ("5", 1), (5, None), 5, "51", None, True, ((5,), 1), ((5, 1), (1, 1)), nested(17))
+        wrong = ((2, 2), (10, 2), (5, 0), (1, 0), (-5, -1), (5, -1), (True, 1), (5, True), (5, False), (5.0, 1),
+                 (5, 1.0), ("5", 1), (5, None), 5, "51", None, True, ((5,), 1), ((5, 1), (1, 1)), nested(17))
         for worth in wrong:
             self.check(None, changed(LEAST, 2, (("a", "b"), worth)))
         for worth in ((0, 2), (0, 0), (0, -1), (False, 1), (0, True), 0, None):
