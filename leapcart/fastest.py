@@ -1,6 +1,9 @@
 """The fastest and the slowest that a cart becomes from rest, and tables that show it.
 
 Leaps back, one by one, are all that need looking at: at once drives less, ahead the wrong way.
+
+Where it must go fast a lot is a number, whose bits say who is in it, the lowest the first of the
+folk: so what is known by lot is a list, and a lot without one of it stands ahead of it there.
 """
 
 from leapcart.carts import names_of, weigh
@@ -8,6 +11,33 @@ from leapcart.errors import TooMany
 from leapcart.worth import NOUGHT, fraction, is_at_least, is_fraction, is_tuple_of, plain_sum, plus, rising
 
 MOST_FOR_ALL = 5
+
+
+def lot_weights(cart, folk):
+    """By lot, what the cart and the lot weigh."""
+    weights = [cart]
+    for name, heavy, leap in folk:
+        weights = weights + [weight + heavy for weight in weights]
+    return weights
+
+
+def lot_pushes(folk):
+    """By lot, an (alone, push) for each one of it: the lot of this one alone, and heavy times leap."""
+    pushes = [()]
+    for name, heavy, leap in folk:
+        one = (len(pushes), heavy * leap)
+        pushes = pushes + [known + (one,) for known in pushes]
+    return pushes
+
+
+def rising_lots(folk):
+    """A (names, lot) for every lot, rising by names."""
+    rows = [((), 0)]
+    alone = 1 << len(folk)
+    for name in reversed(names_of(folk)):
+        alone = alone // 2
+        rows = rows[:1] + [((name,) + names, alone + lot) for names, lot in rows] + rows[1:]
+    return rows
 
 
 def lots_of(folk):

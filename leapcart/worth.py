@@ -66,16 +66,16 @@ def is_at_least(one, other):
     return one[0] * other[1] >= other[0] * one[1]
 
 
-def common_bottom(fractions):
-    """The least number that every bottom divides."""
+def common_multiple(numbers):
+    """The least number that every one of the numbers divides."""
     common = 1
-    for top, bottom in fractions:
-        common = common * bottom // common_divisor(common, bottom)
+    for number in numbers:
+        common = common * number // common_divisor(common, number)
     return common
 
 
 def rising(fractions):
     """The unlike ones of the fractions, by what they are worth, as a new list."""
     unlike = list({one: True for one in fractions})
-    common = common_bottom(unlike)
+    common = common_multiple([bottom for top, bottom in unlike])
     return sorted(unlike, key=lambda one: one[0] * (common // one[1]))

@@ -21,6 +21,25 @@ LISTED = {
         "table": ["cart", "folk"],
         "shown": ["cart", "folk", "thing"],
     },
+    "leapcart.wished": {
+        "fewest_for": ["cart", "folk", "speed"],
+        "to_rest": ["cart", "folk", "speed"],
+    },
+    "leapcart.unseen": {
+        "heavy_by": ["cart", "folk", "name", "more"],
+        "leap_by": ["cart", "folk", "name", "more"],
+    },
+}
+METHODS = {
+    "__init__": ["self", "cart", "folk"],
+    "leap": ["self", "leaps"],
+    "back": ["self"],
+    "speed": ["self"],
+    "still": ["self"],
+    "aboard": ["self"],
+    "leapers": ["self"],
+    "__len__": ["self"],
+    "__eq__": ["self", "other"],
 }
 
 
@@ -32,6 +51,17 @@ class Interface(unittest.TestCase):
                 function = getattr(module, name)
                 self.assertEqual(function.__module__, file)
                 self.assertEqual(list(inspect.signature(function).parameters), arguments, name)
+
+    def test_the_rail_defines_each_method_itself(self):
+        rails = importlib.import_module("leapcart.rails")
+        self.assertEqual(rails.Rail.__module__, "leapcart.rails")
+        for name, arguments in METHODS.items():
+            self.assertIn(name, vars(rails.Rail))
+            self.assertEqual(list(inspect.signature(vars(rails.Rail)[name]).parameters), arguments, name)
+
+    def test_the_rail_has_its_field_when_made(self):
+        rails = importlib.import_module("leapcart.rails")
+        self.assertIs(vars(rails.Rail(1, (("a", 1, 1),)))["busy"], False)
 
 
 if __name__ == "__main__":

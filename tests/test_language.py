@@ -6,6 +6,7 @@ import re
 import unittest
 from pathlib import Path
 
+DOUBLE_UNDERSCORE = ("__init__", "__len__", "__eq__")
 PACKAGE = Path(__file__).resolve().parent.parent / "leapcart"
 BUILTINS = set(
     "len range enumerate zip min max sum abs sorted reversed int str bool list tuple dict set isinstance ord repr "
@@ -81,7 +82,7 @@ class Language(unittest.TestCase):
             bound = list(bound_names(tree))
             for one in bound:
                 self.assertNotIn(one, vars(builtins))
-                self.assertTrue(one == "__init__" or not one.startswith("_"), one)
+                self.assertTrue(one in DOUBLE_UNDERSCORE or not one.startswith("_"), one)
             imported = [alias.name for node in ast.walk(tree) if isinstance(node, ast.ImportFrom)
                         for alias in node.names]
             self.assertFalse(set(bound) & set(imported), name)
