@@ -1,6 +1,6 @@
 """Carts and the folk on them: how fast, and where, they are behind leaps."""
 
-from leapcart.worth import NOUGHT, fraction, is_tuple_of, is_whole, is_whole_within, plus, times
+from leapcart.worth import NOUGHT, is_tuple_of, is_whole, is_whole_within, plus, plus_whole, times
 
 MOST_CART = 1000
 MOST_FOLK = 7
@@ -84,7 +84,7 @@ def driven(cart, aboard, speed, at_once):
     """The cart's speed behind leaps at once of some aboard."""
     ways = {name: way for name, way in at_once}
     push = sum([ways[name] * heavy * leap for name, heavy, leap in aboard if name in ways])
-    return plus(speed, fraction(-push, weigh(cart, aboard)))
+    return plus(speed, (-push, weigh(cart, aboard)))
 
 
 def still_on(aboard, at_once):
@@ -105,23 +105,28 @@ def speeds(cart, folk, speed, leaps):
     return found
 
 
-def leaper_speeds(folk, behind, at_once):
-    """(name, speed) of those who leapt at once, behind being the cart's speed then."""
-    leap_by_name = {name: leap for name, heavy, leap in folk}
-    return [(name, plus(behind, (way * leap_by_name[name], 1))) for name, way in at_once]
+def leap_by_name(folk):
+    """How fast everybody leaps."""
+    return {name: leap for name, heavy, leap in folk}
+
+
+def leaper_speeds(fast, behind, at_once):
+    """(name, speed) of those who leapt at once, fast by name, behind being the cart's speed then."""
+    return [(name, plus_whole(behind, way * fast[name])) for name, way in at_once]
 
 
 def leapers(cart, folk, speed, leaps):
     """The speeds of those who leapt, rising by names."""
+    fast = leap_by_name(folk)
     found = []
     for behind, at_once in zip(speeds(cart, folk, speed, leaps), leaps):
-        found.extend(leaper_speeds(folk, behind, at_once))
+        found.extend(leaper_speeds(fast, behind, at_once))
     return sorted(found)
 
 
 def run_on(place, speed, since, hour):
     """The place, at the hour, of what was at a place since an hour with a speed."""
-    return plus(place, times(speed, plus(hour, (-since, 1))))
+    return plus(place, times(speed, plus_whole(hour, -since)))
 
 
 def places(cart, folk, timed, hour):
@@ -129,13 +134,14 @@ def places(cart, folk, timed, hour):
     # At the very hour of a leap nobody has moved by it yet, so it may count as done.
     done = [(at, at_once) for at, at_once in timed if at * hour[1] <= hour[0]]
     behind_each = speeds(cart, folk, NOUGHT, [at_once for at, at_once in done])
+    fast = leap_by_name(folk)
     place = NOUGHT
     now = NOUGHT
     since = 0
     leapt = {}
     for (at, at_once), behind in zip(done, behind_each):
         place = run_on(place, now, since, (at, 1))
-        for name, own in leaper_speeds(folk, behind, at_once):
+        for name, own in leaper_speeds(fast, behind, at_once):
             leapt[name] = run_on(place, own, at, hour)
         now = behind
         since = at

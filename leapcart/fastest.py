@@ -2,13 +2,13 @@
 
 Leaps back, one by one, are all that need looking at: at once drives less, ahead the wrong way.
 
-Where it must go fast a lot is a number, whose bits say who is in it, the lowest the first of the
-folk: so what is known by lot is a list, and a lot without one of it stands ahead of it there.
+A lot is a number, whose bits say who is in it, the lowest the first of the folk: so what is known
+by lot is a list, and a lot without one of it stands ahead of it there.
 """
 
-from leapcart.carts import names_of, weigh
+from leapcart.carts import names_of
 from leapcart.errors import TooMany
-from leapcart.worth import NOUGHT, fraction, is_at_least, is_fraction, is_tuple_of, plain_sum, plus, rising
+from leapcart.worth import NOUGHT, fraction, is_at_least, is_fraction, is_tuple_of, plus, rising
 
 MOST_FOR_ALL = 5
 
@@ -21,11 +21,11 @@ def lot_weights(cart, folk):
     return weights
 
 
-def lot_pushes(folk):
-    """By lot, an (alone, push) for each one of it: the lot of this one alone, and heavy times leap."""
+def lot_pushes(folk, sign=1):
+    """By lot, an (alone, push) for each one of it: the lot of this one alone, and sign times heavy times leap."""
     pushes = [()]
     for name, heavy, leap in folk:
-        one = (len(pushes), heavy * leap)
+        one = (len(pushes), sign * heavy * leap)
         pushes = pushes + [known + (one,) for known in pushes]
     return pushes
 
@@ -40,119 +40,121 @@ def rising_lots(folk):
     return rows
 
 
-def lots_of(folk):
-    """Every lot of the folk, rising, () first; each lot is like folk itself."""
-    lots = [()]
-    for one in reversed(folk):
-        lots = [()] + [(one,) + lot for lot in lots] + lots[1:]
-    return lots
+def most_drive(found, pushes, weight):
+    """(top, bottom, first) of the next lot: the most by which it drives the cart, and who first leaps then.
 
-
-def without(lot, one):
-    """The lot without this one."""
-    return tuple([other for other in lot if other != one])
-
-
-def drive(cart, lot, one):
-    """By how much this one of the lot, leaping back first, makes the cart faster."""
-    name, heavy, leap = one
-    return fraction(heavy * leap, weigh(cart, lot))
-
-
-def only_greatest(fractions):
-    """A list of the greatest fraction alone."""
-    return rising(fractions)[-1:]
-
-
-def only_least(fractions):
-    """A list of the least fraction alone."""
-    return rising(fractions)[:1]
-
-
-def drives(cart, folk, kept):
-    """By lot, what kept leaves of all by which it drives the cart when all of it leap back.
-
-    What is best, or worst, of a lot is so of the rest behind its first leap, too: so it is
-    enough to go on from what was kept of the lots that are smaller by one.
+    Of several the first in the folk is told.
     """
-    found = {(): [NOUGHT]}
-    for lot in sorted(lots_of(folk), key=len)[1:]:
-        found[lot] = kept([
-            plus(drive(cart, lot, one), rest)
-            for one in lot
-            for rest in found[without(lot, one)]
-        ])
+    lot = len(found)
+    # Less than any fraction, whatever it is compared with.
+    most, under, first = -1, 0, 0
+    for alone, push in pushes:
+        top, bottom, behind = found[lot - alone]
+        # What is compared is times the lot's weight, by which all would be divided.
+        top = top * weight + push * bottom
+        if top * under > most * bottom:
+            most, under, first = top, bottom, alone
+    return (most, under * weight, first)
+
+
+def most_drives(cart, folk, sign=1):
+    """By lot, (top, bottom, first) of the most by which it drives the cart when all of it leap back.
+
+    What is best of a lot is so of the rest behind its first leap, too: so it is enough to go on from
+    the lots that are smaller by one. With the sign -1 all drive the other way, and the most is the
+    least. Common divisors are left in: so few fractions are added up that looking for them takes longer.
+    """
+    weights = lot_weights(cart, folk)
+    found = [(0, 1, 0)]
+    for lot, pushes in enumerate(lot_pushes(folk, sign)):
+        if lot > 0:
+            found.append(most_drive(found, pushes, weights[lot]))
     return found
 
 
 def greatest(cart, folk):
     """The greatest speed that the cart can have behind any leaps."""
-    return drives(cart, folk, only_greatest)[folk][0]
+    top, bottom, first = most_drives(cart, folk)[-1]
+    return fraction(top, bottom)
 
 
 def slowest(cart, folk):
     """The least speed that the cart has when all have leapt back, one by one."""
-    return drives(cart, folk, only_least)[folk][0]
+    top, bottom, first = most_drives(cart, folk, -1)[-1]
+    return fraction(-top, bottom)
 
 
 def all_speeds(cart, folk):
     """All unlike speeds that the cart can have when all have leapt back, rising."""
     if len(folk) > MOST_FOR_ALL:
         raise TooMany(MOST_FOR_ALL)
-    return drives(cart, folk, rising)[folk]
-
-
-def first_best(cart, lot, found):
-    """The first of the lot who can leap first where the lot drives the cart most."""
-    best = [
-        one for one in lot
-        if plus(drive(cart, lot, one), found[without(lot, one)][0]) == found[lot][0]
-    ]
-    return best[0]
+    weights = lot_weights(cart, folk)
+    found = [[NOUGHT]]
+    for lot, pushes in enumerate(lot_pushes(folk)):
+        if lot > 0:
+            drives = [plus((push, weights[lot]), rest) for alone, push in pushes for rest in found[lot - alone]]
+            found.append(rising(drives))
+    return found[-1]
 
 
 def best_order(cart, folk):
     """The first order of all folk by which the cart becomes fastest."""
-    found = drives(cart, folk, only_greatest)
-    lot = folk
+    found = most_drives(cart, folk)
+    names = {1 << at: name for at, name in enumerate(names_of(folk))}
+    lot = len(found) - 1
     order = []
-    while len(lot) > 0:
-        one = first_best(cart, lot, found)
-        order.append(one[0])
-        lot = without(lot, one)
+    while lot > 0:
+        first = found[lot][2]
+        order.append(names[first])
+        lot = lot - first
     return tuple(order)
 
 
 def table(cart, folk):
     """The table whose fractions are as small as can be."""
-    found = drives(cart, folk, only_greatest)
-    return tuple([(names_of(lot), found[lot][0]) for lot in lots_of(folk)])
+    worths = [fraction(top, bottom) for top, bottom, first in most_drives(cart, folk)]
+    return tuple([(names, worths[lot]) for names, lot in rising_lots(folk)])
 
 
-def is_row(lot, thing):
+def is_row(names, thing):
     """Whether anything is a pair of the lot's names and a fraction."""
-    return is_tuple_of(thing, 2) and thing[0] == names_of(lot) and is_fraction(thing[1])
+    return is_tuple_of(thing, 2) and thing[0] == names and is_fraction(thing[1])
 
 
-def bounds_lot(cart, lot, found):
+def bounds_lot(worths, lot, pushes, weight):
     """Whether the lot's fraction is no less than whoever of it leaps first asks for."""
-    # Unreduced sums are enough to compare, and figures may be many here.
+    top, bottom = worths[lot]
+    weighed_top = top * weight
+    weighed_bottom = bottom * weight
+    for alone, push in pushes:
+        rest_top, rest_bottom = worths[lot - alone]
+        # The lot's fraction, less what this one drives, beside that of the rest.
+        if (weighed_top - push * bottom) * rest_bottom < rest_top * weighed_bottom:
+            return False
+    return True
+
+
+def are_bounds(cart, folk, worths):
+    """Whether fractions, by lot, are great enough for a table."""
+    if not is_at_least(worths[0], NOUGHT):
+        return False
+    weights = lot_weights(cart, folk)
     return all([
-        is_at_least(found[lot], plain_sum(drive(cart, lot, one), found[without(lot, one)]))
-        for one in lot
+        bounds_lot(worths, lot, pushes, weights[lot])
+        for lot, pushes in enumerate(lot_pushes(folk))
     ])
 
 
 def shown(cart, folk, thing):
     """What anything shows as a table: the fraction of all folk; None where it is none."""
-    lots = lots_of(folk)
+    lots = rising_lots(folk)
     if not is_tuple_of(thing, len(lots)):
         return None
-    if not all([is_row(lot, row) for lot, row in zip(lots, thing)]):
+    worths = {}
+    for (names, lot), row in zip(lots, thing):
+        if not is_row(names, row):
+            return None
+        worths[lot] = row[1]
+    if not are_bounds(cart, folk, worths):
         return None
-    found = {lot: row[1] for lot, row in zip(lots, thing)}
-    if not is_at_least(found[()], NOUGHT):
-        return None
-    if not all([bounds_lot(cart, lot, found) for lot in lots]):
-        return None
-    return found[folk]
+    return worths[len(lots) - 1]

@@ -1,6 +1,6 @@
 """A rail: a cart and its folk, kept deed by deed."""
 
-from leapcart.carts import are_at_once, are_folk, driven, is_cart, leaper_speeds, names_of, still_on
+from leapcart.carts import are_at_once, are_folk, driven, is_cart, leap_by_name, leaper_speeds, names_of, still_on
 from leapcart.errors import NoCart, NoFolk, NoLeaps, NothingLeft
 from leapcart.fastest import greatest
 from leapcart.worth import NOUGHT
@@ -35,7 +35,7 @@ class Rail:
     def go_on(self, leaps):
         """Keep what was, and become what is behind the leaps."""
         now = driven(self.cart, self.carried, self.now, leaps)
-        gone = tuple(sorted(list(self.gone) + leaper_speeds(self.folk, now, leaps)))
+        gone = tuple(sorted(list(self.gone) + leaper_speeds(leap_by_name(self.folk), now, leaps)))
         self.past.append((self.now, self.carried, self.gone))
         self.carried = still_on(self.carried, leaps)
         self.now = now

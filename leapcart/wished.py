@@ -57,7 +57,7 @@ def scaled_drives(folk, weights, common):
     ]
 
 
-def most_drives(drives):
+def most_by_lot(drives):
     """By lot, the most by which all of it can drive the cart, times common."""
     found = [0]
     for lot in range(1, len(drives)):
@@ -100,7 +100,7 @@ def to_rest(cart, folk, speed):
     if common % bottom != 0:
         return None
     drives = scaled_drives(folk, weights, common)
-    most = most_drives(drives)
+    most = most_by_lot(drives)
     # A state is (speed times common, lot on the cart, leaps up to it).
     states = [(top * (common // bottom), len(drives) - 1, [])]
     while len(states) > 0:

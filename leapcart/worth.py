@@ -45,15 +45,14 @@ def fraction(top, bottom):
     return (top // divisor, bottom // divisor)
 
 
-def plain_sum(one, other):
-    """Both together as a pair (top, bottom) that may have a common divisor."""
-    return (one[0] * other[1] + other[0] * one[1], one[1] * other[1])
-
-
 def plus(one, other):
-    """Both together, a fraction."""
-    top, bottom = plain_sum(one, other)
-    return fraction(top, bottom)
+    """Both together, a fraction; common divisors do no harm."""
+    return fraction(one[0] * other[1] + other[0] * one[1], one[1] * other[1])
+
+
+def plus_whole(one, number):
+    """A fraction and a whole number together: top and bottom have no common divisor then, either."""
+    return (one[0] + number * one[1], one[1])
 
 
 def times(one, other):

@@ -6,6 +6,9 @@ from random import Random
 
 SMALL = (("a", 60, 3), ("b", 80, 3), ("c", 40, 5))
 SEVEN = (("a", 1, 1), ("b", 200, 100), ("c", 70, 3), ("d", 70, 3), ("e", 35, 6), ("f", 9, 99), ("g", 120, 1))
+# Weights and leaps without common divisors: what takes longest to reckon with.
+PRIMES = (("ann", 199, 97), ("bo", 193, 89), ("cy", 181, 83), ("dee", 173, 79), ("eli", 167, 73), ("fay", 157, 71),
+          ("gus", 149, 67))
 
 # Things that are no cart's weight, no folk, no leaps and no table.
 ANYTHING = (
@@ -109,6 +112,14 @@ def random_cases(many, most_folk, seed=1):
         names = sorted(chance.sample("abcdefghijkl", 1 + at % most_folk))
         folk = tuple((name, chance.randint(1, 200), chance.randint(1, 100)) for name in names)
         yield chance.choice((1, 1000, chance.randint(1, 1000))), folk
+
+
+def random_small_cases(many, most_folk, seed):
+    """Carts and folk of all sizes, of small numbers, the same at every run."""
+    chance = Random(seed)
+    for at in range(many):
+        names = "abcdefg"[:1 + at % most_folk]
+        yield chance.randint(1, 4), tuple((name, chance.randint(1, 3), chance.randint(1, 3)) for name in names)
 
 
 def random_leaps(folk, seed):

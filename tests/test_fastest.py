@@ -6,7 +6,7 @@ import unittest
 from leapcart.carts import speeds
 from leapcart.errors import AskedError, TooMany
 from leapcart.fastest import all_speeds, best_order, greatest, slowest
-from oracle import SEVEN, SMALL, back, by_order, pair, random_cases
+from oracle import PRIMES, SEVEN, SMALL, back, by_order, pair, random_cases, random_small_cases
 
 ALIKE = tuple((name, 7, 9) for name in "abcdefg")
 
@@ -67,6 +67,16 @@ class Fastest(unittest.TestCase):
 
     def test_six_and_seven(self):
         for cart, folk in random_cases(7, 7, seed=5):
+            self.check(cart, folk)
+
+    def test_one_to_seven_without_common_divisors(self):
+        for many in range(1, 8):
+            self.check(997, PRIMES[:many])
+            self.check(997, PRIMES[7 - many:])
+
+    def test_one_to_seven_with_many_alike(self):
+        # Small numbers make many orders alike, so that the first of them counts.
+        for cart, folk in list(random_small_cases(60, 5, seed=33)) + list(random_small_cases(14, 7, seed=34)):
             self.check(cart, folk)
 
     def test_the_order_makes_the_cart_just_so_fast(self):

@@ -4,7 +4,7 @@ import copy
 import unittest
 
 from leapcart.fastest import greatest, shown, table
-from oracle import ANYTHING, SEVEN, SMALL, by_order, frac, lots, nested, pair, random_cases
+from oracle import ANYTHING, PRIMES, SEVEN, SMALL, by_order, frac, lots, nested, pair, random_cases, random_small_cases
 
 PAIR = (("a", 1, 1), ("b", 2, 1))
 # The least table of PAIR on a cart of 1.
@@ -21,6 +21,16 @@ def raised(rows, more):
 
 
 class Least(unittest.TestCase):
+    def check_lots(self, cart, folk):
+        rows = table(cart, folk)
+        self.assertEqual([lot for lot, worth in rows], lots(folk))
+        told = dict(rows)
+        self.assertEqual(told[()], (0, 1))
+        for lot in lots(folk)[1:]:
+            some = tuple(one for one in folk if one[0] in lot)
+            self.assertEqual(told[lot], pair(max(by_order(cart, some).values())))
+        self.assertEqual(shown(cart, folk, rows), told[tuple(one[0] for one in folk)])
+
     def test_two(self):
         self.assertEqual(table(1, PAIR), LEAST)
 
@@ -35,10 +45,15 @@ class Least(unittest.TestCase):
     def test_each_fraction_is_what_the_lot_can_do(self):
         # A table shows a bound for each lot, and the least one is reached by some order of it.
         for cart, folk in list(random_cases(20, 4, seed=8)) + [(1, SEVEN[:5]), (1000, SEVEN[:5])]:
-            told = dict(table(cart, folk))
-            for lot in lots(folk)[1:]:
-                some = tuple(one for one in folk if one[0] in lot)
-                self.assertEqual(told[lot], pair(max(by_order(cart, some).values())))
+            self.check_lots(cart, folk)
+
+    def test_one_to_seven_without_common_divisors(self):
+        for many in range(1, 8):
+            self.check_lots(997, PRIMES[:many])
+
+    def test_one_to_six_with_many_alike(self):
+        for cart, folk in random_small_cases(24, 6, seed=35):
+            self.check_lots(cart, folk)
 
     def test_it_shows_the_greatest_speed(self):
         for cart, folk in list(random_cases(40, 7, seed=9)) + [(1, SEVEN), (1000, SEVEN)]:
@@ -82,6 +97,13 @@ class Shown(unittest.TestCase):
             for at, (lot, worth) in enumerate(rows):
                 less = pair(frac(worth) - frac((1, 10**50)))
                 self.check(None, changed(rows, at, (lot, less)), cart, folk)
+
+    def test_every_fraction_of_seven_must_be_great_enough(self):
+        rows = table(997, PRIMES)
+        for at, (lot, worth) in enumerate(rows):
+            self.check(None, changed(rows, at, (lot, pair(frac(worth) - frac((1, 10**50))))), 997, PRIMES)
+        wanted = greatest(997, PRIMES)
+        self.check(wanted, rows, 997, PRIMES)
 
     def test_what_a_smaller_lot_adds_counts(self):
         for cart, folk in ((1, PAIR), (100, SMALL), (1, SEVEN)):
